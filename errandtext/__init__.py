@@ -1,0 +1,1 @@
+"""Errands' texts: what a row of numbers tells."""

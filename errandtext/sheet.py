@@ -1,0 +1,156 @@
+"""Errands' texts: what a row of numbers tells.
+
+A number's place in the row says what it tells; one letter stands for each such thing: s a statement,
+e an expression, v a variable, k a work, b by what a step is put back, c a kind, n a change, w a whole number.
+A thing is a letter and a level: of a statement and an expression its own, of all else that of what it belongs to.
+"""
+
+NO_TEXT = -22
+LOOP_WITHOUT_WAIT = -33
+
+MOST_NUMBERS = 160
+MOST_LEVELS = 24
+
+NOTHING = 0
+PUT = 1
+STEP = 2
+WAIT = 3
+HEAR = 4
+TELL = 5
+FAIL = 6
+THEN = 7
+CHOICE = 8
+LOOP = 9
+BOTH = 10
+WITHIN = 11
+CATCH = 12
+DEAL = 13
+CHANGE = 14
+
+STATEMENT_PARTS = ("", "ve", "kevb", "e", "cv", "ece", "e", "ss", "ess", "es", "ss", "ess", "vss", "s", "nss")
+EXPRESSION_PARTS = ("w", "v", "ee", "ee", "ee", "ee", "ee")
+
+# The first number that is too much for each letter.
+BOUNDS = {"s": 15, "e": 7, "v": 8, "k": 8, "b": 9, "c": 4, "n": 8, "w": 4294967296}
+
+
+class Row:
+    """What the numbers of a row tell, up to the first that can't stand, and whether all of them are one statement."""
+
+    def __init__(self, told, whole):
+        self.told = told
+        self.whole = whole
+
+
+class AtOnce:
+    """What a statement may do before it has waited for anything."""
+
+    def __init__(self, ends, fails):
+        self.ends = ends
+        self.fails = fails
+
+
+def has_level(letter):
+    return letter in ("s", "e")
+
+
+def parts_of(letter, number):
+    """The letters of what belongs to a number, in order."""
+    if letter == "s":
+        return STATEMENT_PARTS[number]
+    if letter == "e":
+        return EXPRESSION_PARTS[number]
+    return ""
+
+
+def things_behind(thing, number):
+    """The things that must follow a number, once it tells this thing."""
+    level = thing[1]
+    return [(letter, level + 1 if has_level(letter) else level) for letter in parts_of(thing[0], number)]
+
+
+def can_stand(thing, number):
+    """Whether a number can tell this thing. One whose parts would lie too deep can't, whatever would follow."""
+    if number >= BOUNDS[thing[0]]:
+        return False
+    return all([behind[1] <= MOST_LEVELS for behind in things_behind(thing, number)])
+
+
+def row_of(text):
+    told = []
+    waiting = [("s", 1)]
+    for number in text:
+        if len(waiting) == 0 or not can_stand(waiting[0], number):
+            return Row(told, False)
+        told.append(waiting[0])
+        waiting = things_behind(waiting[0], number) + waiting[1:]
+    return Row(told, len(waiting) == 0)
+
+
+def tree_of(told, text):
+    """A whole statement as a tuple: its number, then its parts, the statements and expressions among them likewise."""
+    built = []
+    # Backwards, so that a number's parts lie ready when it is reached, the first of them on top.
+    for thing, number in reversed(list(zip(told, text))):
+        parts = [built.pop() for letter in parts_of(thing[0], number)]
+        built.append((number,) + tuple(parts) if has_level(thing[0]) else number)
+    return built[0]
+
+
+def inner_statements(statement):
+    letters = STATEMENT_PARTS[statement[0]]
+    return [part for letter, part in zip(letters, statement[1:]) if letter == "s"]
+
+
+def at_once(statement):
+    number = statement[0]
+    if number in (NOTHING, PUT, TELL):
+        return AtOnce(True, False)
+    if number == FAIL:
+        return AtOnce(False, True)
+    if number in (STEP, WAIT, HEAR):
+        return AtOnce(False, False)
+    inner = [at_once(part) for part in inner_statements(statement)]
+    if number == LOOP:
+        return AtOnce(True, inner[0].fails)
+    if number in (WITHIN, DEAL):
+        return inner[0]
+    return at_once_of_two(number, inner[0], inner[1])
+
+
+def at_once_of_two(number, first, second):
+    """What a statement of this number may do at once, told by what its A and its B may."""
+    if number == THEN:
+        return AtOnce(first.ends and second.ends, first.fails or (first.ends and second.fails))
+    if number == BOTH:
+        return AtOnce(first.ends and second.ends, first.fails or second.fails)
+    if number == CATCH:
+        return AtOnce(first.ends or (first.fails and second.ends), first.fails and second.fails)
+    # What is left is CHOICE and CHANGE: either part may be the one that is done.
+    return AtOnce(first.ends or second.ends, first.fails or second.fails)
+
+
+def loops_wait(statement):
+    inner = inner_statements(statement)
+    if statement[0] == LOOP and at_once(inner[0]).ends:
+        return False
+    return all([loops_wait(part) for part in inner])
+
+
+def refusal_of(row, text):
+    """The refusal that is due first, or 0 where the row is a text."""
+    if len(text) > MOST_NUMBERS or not row.whole:
+        return NO_TEXT
+    if not loops_wait(tree_of(row.told, text)):
+        return LOOP_WITHOUT_WAIT
+    return 0
+
+
+def read(text):
+    """How many statements there are in the text, then how many levels; or a refusal alone."""
+    row = row_of(text)
+    refusal = refusal_of(row, text)
+    if refusal < 0:
+        return [refusal]
+    statements = [thing for thing in row.told if thing[0] == "s"]
+    return [len(statements), max([thing[1] for thing in row.told])]

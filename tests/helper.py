@@ -1,0 +1,122 @@
+"""Rows of numbers for the tests, put together from named pieces."""
+
+MOST = 4294967295
+
+NOTHING = [0]
+ONE = [0, 1]
+VARIABLE = [1, 0]
+
+# Each statement, by its letters: s a statement, e an expression, and of the others the greatest number.
+STATEMENT_SHAPES = [
+    [0],
+    [1, 7, "e"],
+    [2, 7, "e", 7, 8],
+    [3, "e"],
+    [4, 3, 7],
+    [5, "e", 3, "e"],
+    [6, "e"],
+    [7, "s", "s"],
+    [8, "e", "s", "s"],
+    [9, "e", "s"],
+    [10, "s", "s"],
+    [11, "e", "s", "s"],
+    [12, 7, "s", "s"],
+    [13, "s"],
+    [14, 7, "s", "s"],
+]
+
+EXPRESSION_SHAPES = [
+    [0, MOST],
+    [1, 7],
+    [2, "e", "e"],
+    [3, "e", "e"],
+    [4, "e", "e"],
+    [5, "e", "e"],
+    [6, "e", "e"],
+]
+
+
+def filled(shape, statement, expression):
+    """The shape's row with these rows in its slots."""
+    row = []
+    for piece in shape:
+        if piece == "s":
+            row += statement
+        elif piece == "e":
+            row += expression
+        else:
+            row.append(piece)
+    return row
+
+
+def filled_at(shape, slot, inner, statement, expression):
+    """The shape's row with inner in the slot that lies at this index, and plain rows in the others."""
+    row = []
+    for index, piece in enumerate(shape):
+        if index == slot:
+            row += inner
+        else:
+            row += filled([piece], statement, expression)
+    return row
+
+
+def slots(shape, letter):
+    return [index for index, piece in enumerate(shape) if piece == letter]
+
+
+def wait():
+    return [3] + ONE
+
+
+def then(first, second):
+    return [7] + first + second
+
+
+def loop(inner):
+    return [9] + VARIABLE + inner
+
+
+def catch(first, second):
+    return [12, 0] + first + second
+
+
+def deals(count, inner):
+    """A statement within so many deals, so that many levels deeper."""
+    return [13] * count + inner
+
+
+def sums(count, inner):
+    """An expression as the first part of so many sums, so that many levels deeper."""
+    return [2] * count + inner + ONE * count
+
+
+def late_sums(count, inner):
+    """An expression as the second part of so many sums."""
+    return ([2] + ONE) * count + inner
+
+
+def halves(count):
+    """One statement of so many numbers (an odd number), each of them a statement: 7 or nothing."""
+    if count == 1:
+        return [0]
+    first = (count - 1) // 2
+    if first % 2 == 0:
+        first -= 1
+    return [7] + halves(first) + halves(count - 1 - first)
+
+
+def row_with(count):
+    """One statement of so many numbers (6 and more), with few levels."""
+    if count % 2 == 1:
+        return halves(count)
+    return then([1, 0] + ONE, halves(count - 5))
+
+
+class Untouchable(list):
+    """A list that won't be changed, not for a while either."""
+
+    def refuse(self, *args, **kwargs):
+        raise AssertionError("what was handed in was changed")
+
+    append = clear = extend = insert = pop = remove = reverse = sort = refuse
+    __setitem__ = __delitem__ = __iadd__ = __imul__ = refuse
