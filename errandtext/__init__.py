@@ -1,1 +1,1 @@
-"""Errands' texts: what a row of numbers tells."""
+"""Errands' texts: what a row of numbers tells, and where it ceases to tell anything."""

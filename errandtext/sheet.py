@@ -1,10 +1,11 @@
-"""Errands' texts: what a row of numbers tells.
+"""Errands' texts: what a row of numbers tells, and where it ceases to tell anything.
 
 A number's place in the row says what it tells; one letter stands for each such thing: s a statement,
 e an expression, v a variable, k a work, b by what a step is put back, c a kind, n a change, w a whole number.
 A thing is a letter and a level: of a statement and an expression its own, of all else that of what it belongs to.
 """
 
+ONE_STATEMENT = -6
 NO_TEXT = -22
 LOOP_WITHOUT_WAIT = -33
 
@@ -154,3 +155,11 @@ def read(text):
         return [refusal]
     statements = [thing for thing in row.told if thing[0] == "s"]
     return [len(statements), max([thing[1] for thing in row.told])]
+
+
+def where(text):
+    """The place of the first number that can't stand, or of the one that's missing; -6 if the row is one statement."""
+    row = row_of(text)
+    if row.whole:
+        return [ONE_STATEMENT]
+    return [len(row.told)]

@@ -1,5 +1,7 @@
 """Rows of numbers for the tests, put together from named pieces."""
 
+import sys
+
 MOST = 4294967295
 
 NOTHING = [0]
@@ -110,6 +112,16 @@ def row_with(count):
     if count % 2 == 1:
         return halves(count)
     return then([1, 0] + ONE, halves(count - 5))
+
+
+def calls_deep():
+    """How many calls lie within one another where this is called."""
+    depth = 0
+    frame = sys._getframe(1)
+    while frame is not None:
+        depth += 1
+        frame = frame.f_back
+    return depth
 
 
 class Untouchable(list):

@@ -12,6 +12,7 @@ from helper import (
     STATEMENT_SHAPES,
     Untouchable,
     VARIABLE,
+    calls_deep,
     catch,
     deals,
     filled,
@@ -404,12 +405,7 @@ class Calls(ReadCase):
 
     def test_no_deep_calls(self):
         limit = sys.getrecursionlimit()
-        depth = 0
-        frame = sys._getframe()
-        while frame is not None:
-            depth += 1
-            frame = frame.f_back
-        sys.setrecursionlimit(depth + 120)
+        sys.setrecursionlimit(calls_deep() + 120)
         try:
             answers = [read([number] * 200) for number in (2, 7, 9, 13)]
             answers.append(read([3] + sums(22, ONE)))
