@@ -1,4 +1,4 @@
-"""Errands' texts: what a row of numbers tells, and where it ceases to tell anything.
+"""Errands' texts: what a row of numbers tells, where it ceases to tell anything, and what it uses.
 
 A number's place in the row says what it tells; one letter stands for each such thing: s a statement,
 e an expression, v a variable, k a work, b by what a step is put back, c a kind, n a change, w a whole number.
@@ -33,6 +33,9 @@ EXPRESSION_PARTS = ("w", "v", "ee", "ee", "ee", "ee", "ee")
 
 # The first number that is too much for each letter.
 BOUNDS = {"s": 15, "e": 7, "v": 8, "k": 8, "b": 9, "c": 4, "n": 8, "w": 4294967296}
+
+# What each member of a set counts, from 0 on; works, kinds, changes and variables are all below eight.
+COUNTS = (1, 2, 4, 8, 16, 32, 64, 128)
 
 
 class Row:
@@ -103,6 +106,14 @@ def inner_statements(statement):
     return [part for letter, part in zip(letters, statement[1:]) if letter == "s"]
 
 
+def statements_in(statement):
+    """The statement itself and all those within it."""
+    found = [statement]
+    for part in inner_statements(statement):
+        found.extend(statements_in(part))
+    return found
+
+
 def at_once(statement):
     number = statement[0]
     if number in (NOTHING, PUT, TELL):
@@ -147,6 +158,20 @@ def refusal_of(row, text):
     return 0
 
 
+def parts_at(statements, number, place):
+    """What stands at this place in each of those statements that have this number."""
+    return [statement[place] for statement in statements if statement[0] == number]
+
+
+def variables_put(statements):
+    put = parts_at(statements, PUT, 1) + parts_at(statements, STEP, 3)
+    return put + parts_at(statements, HEAR, 2) + parts_at(statements, CATCH, 1)
+
+
+def set_as_number(members):
+    return sum([count for member, count in enumerate(COUNTS) if member in members])
+
+
 def read(text):
     """How many statements there are in the text, then how many levels; or a refusal alone."""
     row = row_of(text)
@@ -163,3 +188,20 @@ def where(text):
     if row.whole:
         return [ONE_STATEMENT]
     return [len(row.told)]
+
+
+def uses(text):
+    """0, then as sets: works asked, works that put back, kinds heard, kinds told, changes, variables put into."""
+    row = row_of(text)
+    refusal = refusal_of(row, text)
+    if refusal < 0:
+        return [refusal]
+    statements = statements_in(tree_of(row.told, text))
+    asked = parts_at(statements, STEP, 1)
+    # A step's b is one more than the work that puts it back, so that its 0 can say that nothing does.
+    back = [by - 1 for by in parts_at(statements, STEP, 4) if by > 0]
+    heard = parts_at(statements, HEAR, 1)
+    told = parts_at(statements, TELL, 2)
+    changes = parts_at(statements, CHANGE, 1)
+    sets = (asked, back, heard, told, changes, variables_put(statements))
+    return [0] + [set_as_number(members) for members in sets]

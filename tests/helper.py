@@ -1,5 +1,6 @@
 """Rows of numbers for the tests, put together from named pieces."""
 
+import random
 import sys
 
 MOST = 4294967295
@@ -112,6 +113,56 @@ def row_with(count):
     if count % 2 == 1:
         return halves(count)
     return then([1, 0] + ONE, halves(count - 5))
+
+
+def some_piece(source, piece, level, most):
+    """A row for this piece of a shape, with at most so many levels."""
+    if piece not in ("s", "e"):
+        return [source.randint(0, piece)]
+    shapes = STATEMENT_SHAPES if piece == "s" else EXPRESSION_SHAPES
+    shape = source.choice(shapes)
+    if level >= most:
+        shape = shapes[0]
+    row = [shape[0]]
+    for inner in shape[1:]:
+        row += some_piece(source, inner, level + 1, most)
+    return row
+
+
+def some_rows():
+    """Rows of which many are one statement, or nearly one; the same at each run."""
+    source = random.Random(20261118)
+    rows = []
+    while len(rows) < 4000:
+        row = [13] * source.choice((0, 0, 5, 18, 21)) + some_piece(source, "s", 1, source.randint(1, 8))
+        if len(row) > 195:
+            continue
+        place = source.randrange(len(row))
+        other = source.choice((0, 1, 2, 3, 4, 5, 6, 7, 8, 9, 13, 14, 15, MOST))
+        rows += [row, row[:place], row + [other]]
+        rows += [row[:place] + [other] + row[place + 1:], row[:place] + [other] + row[place:]]
+    return rows
+
+
+def tree_and_end(row, place, shapes):
+    """What begins at this place, as a list with lists in it, by the shapes alone; then the place behind it."""
+    tree = [row[place]]
+    place += 1
+    for piece in shapes[tree[0]][1:]:
+        if piece == "s":
+            part, place = tree_and_end(row, place, STATEMENT_SHAPES)
+        elif piece == "e":
+            part, place = tree_and_end(row, place, EXPRESSION_SHAPES)
+        else:
+            part = row[place]
+            place += 1
+        tree.append(part)
+    return tree, place
+
+
+def tree_by_shapes(row):
+    """A text as a list of its statement's number and parts, the statements and expressions among them likewise."""
+    return tree_and_end(row, 0, STATEMENT_SHAPES)[0]
 
 
 def calls_deep():

@@ -1,6 +1,5 @@
 """Tests of where: point 2 of the document, and b of what holds."""
 
-import random
 import sys
 import unittest
 
@@ -21,6 +20,7 @@ from helper import (
     loop,
     row_with,
     slots,
+    some_rows,
     sums,
     then,
     wait,
@@ -278,35 +278,6 @@ def place_by_shapes(row):
     except Fault as fault:
         return fault.args[0]
     return -6 if end == len(row) else end
-
-
-def some_piece(source, piece, level, most):
-    """A row for this piece of a shape, with at most so many levels."""
-    if piece not in ("s", "e"):
-        return [source.randint(0, piece)]
-    shapes = STATEMENT_SHAPES if piece == "s" else EXPRESSION_SHAPES
-    shape = source.choice(shapes)
-    if level >= most:
-        shape = shapes[0]
-    row = [shape[0]]
-    for inner in shape[1:]:
-        row += some_piece(source, inner, level + 1, most)
-    return row
-
-
-def some_rows():
-    """Rows of which many are one statement, or nearly one; the same at each run."""
-    source = random.Random(20261118)
-    rows = []
-    while len(rows) < 4000:
-        row = [13] * source.choice((0, 0, 5, 18, 21)) + some_piece(source, "s", 1, source.randint(1, 8))
-        if len(row) > 195:
-            continue
-        place = source.randrange(len(row))
-        other = source.choice((0, 1, 2, 3, 4, 5, 6, 7, 8, 9, 13, 14, 15, MOST))
-        rows += [row, row[:place], row + [other]]
-        rows += [row[:place] + [other] + row[place + 1:], row[:place] + [other] + row[place:]]
-    return rows
 
 
 class WhatHolds(unittest.TestCase):
