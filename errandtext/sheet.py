@@ -1,4 +1,4 @@
-"""Errands' texts: what a row of numbers tells, where it ceases to tell anything, and what it uses.
+"""Errands' texts: what a row of numbers tells, where it ceases to, what it uses, and what it may do at once.
 
 A number's place in the row says what it tells; one letter stands for each such thing: s a statement,
 e an expression, v a variable, k a work, b by what a step is put back, c a kind, n a change, w a whole number.
@@ -205,3 +205,13 @@ def uses(text):
     changes = parts_at(statements, CHANGE, 1)
     sets = (asked, back, heard, told, changes, variables_put(statements))
     return [0] + [set_as_number(members) for members in sets]
+
+
+def soon(text):
+    """1 if the text may end well at once, and 2 more if it may fail at once; or a refusal."""
+    row = row_of(text)
+    refusal = refusal_of(row, text)
+    if refusal < 0:
+        return [refusal]
+    may = at_once(tree_of(row.told, text))
+    return [(1 if may.ends else 0) + (2 if may.fails else 0)]

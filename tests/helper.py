@@ -38,6 +38,27 @@ EXPRESSION_SHAPES = [
     [6, "e", "e"],
 ]
 
+# A statement for each of what one may do at once: - neither, w end well, f fail, b both.
+PLAIN = {
+    "-": [4, 0, 0],
+    "w": [0],
+    "f": [6, 0, 1],
+    "b": [8, 1, 0, 0, 6, 0, 1],
+}
+
+# Of each statement with an A and a B, a row for each of what A may do (- w f b), in it a letter for each of what B may.
+AT_ONCE_OF_TWO = {
+    7: ("----", "-wfb", "ffff", "fbfb"),
+    8: ("-wfb", "wwbb", "fbfb", "bbbb"),
+    10: ("--ff", "-wfb", "ffff", "fbfb"),
+    11: ("----", "wwww", "ffff", "bbbb"),
+    12: ("----", "wwww", "-wfb", "wwbb"),
+    14: ("-wfb", "wwbb", "fbfb", "bbbb"),
+}
+
+# What stands ahead of their A.
+FRONTS = {7: [7], 8: [8, 1, 0], 10: [10], 11: [11, 0, 1], 12: [12, 0], 14: [14, 0]}
+
 
 def filled(shape, statement, expression):
     """The shape's row with these rows in its slots."""

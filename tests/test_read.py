@@ -5,10 +5,13 @@ import unittest
 
 from errandtext.sheet import read
 from helper import (
+    AT_ONCE_OF_TWO,
     EXPRESSION_SHAPES,
+    FRONTS,
     MOST,
     NOTHING,
     ONE,
+    PLAIN,
     STATEMENT_SHAPES,
     Untouchable,
     VARIABLE,
@@ -255,26 +258,7 @@ class Lengths(ReadCase):
 
 
 class Loops(ReadCase):
-    """What a statement may do at once shows in loops of it: - neither, w end well, f fail, b both."""
-
-    PLAIN = {
-        "-": [4, 0, 0],
-        "w": [0],
-        "f": [6, 0, 1],
-        "b": [8, 1, 0, 0, 6, 0, 1],
-    }
-
-    # A row for each of what A may do (- w f b), in it a letter for each of what B may.
-    TABLES = {
-        7: ("----", "-wfb", "ffff", "fbfb"),
-        8: ("-wfb", "wwbb", "fbfb", "bbbb"),
-        10: ("--ff", "-wfb", "ffff", "fbfb"),
-        11: ("----", "wwww", "ffff", "bbbb"),
-        12: ("----", "wwww", "-wfb", "wwbb"),
-        14: ("-wfb", "wwbb", "fbfb", "bbbb"),
-    }
-
-    FRONTS = {7: [7], 8: [8, 1, 0], 10: [10], 11: [11, 0, 1], 12: [12, 0], 14: [14, 0]}
+    """What a statement may do at once shows in loops of it."""
 
     def may(self, row, expected):
         """Asserts what the row may do at once."""
@@ -298,17 +282,17 @@ class Loops(ReadCase):
         self.may([6, 0, 0], "f")
 
     def test_statements_of_two(self):
-        for number, table in self.TABLES.items():
+        for number, table in AT_ONCE_OF_TWO.items():
             for first, letters in zip("-wfb", table):
                 for second, expected in zip("-wfb", letters):
-                    row = self.FRONTS[number] + self.PLAIN[first] + self.PLAIN[second]
+                    row = FRONTS[number] + PLAIN[first] + PLAIN[second]
                     self.may(row, expected)
 
     def test_statements_of_one(self):
-        for letter, row in self.PLAIN.items():
+        for letter, row in PLAIN.items():
             self.may([13] + row, letter)
-        self.may(loop(self.PLAIN["-"]), "w")
-        self.may(loop(self.PLAIN["f"]), "b")
+        self.may(loop(PLAIN["-"]), "w")
+        self.may(loop(PLAIN["f"]), "b")
 
     def test_an_expression_changes_nothing(self):
         for number in (0, 1):
