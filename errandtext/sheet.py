@@ -1,4 +1,5 @@
-"""Errands' texts: what a row of numbers tells, where it ceases to, what it uses, and what it may do at once.
+"""Errands' texts: what a row of numbers tells, where it ceases to, what it uses, what it may do at once, and how
+the same is said in fewer numbers.
 
 A number's place in the row says what it tells; one letter stands for each such thing: s a statement,
 e an expression, v a variable, k a work, b by what a step is put back, c a kind, n a change, w a whole number.
@@ -28,11 +29,22 @@ CATCH = 12
 DEAL = 13
 CHANGE = 14
 
+NUMBER = 0
+VARIABLE = 1
+SUM = 2
+DIFFERENCE = 3
+PRODUCT = 4
+LESS = 5
+ALIKE = 6
+
 STATEMENT_PARTS = ("", "ve", "kevb", "e", "cv", "ece", "e", "ss", "ess", "es", "ss", "ess", "vss", "s", "nss")
 EXPRESSION_PARTS = ("w", "v", "ee", "ee", "ee", "ee", "ee")
 
 # The first number that is too much for each letter.
 BOUNDS = {"s": 15, "e": 7, "v": 8, "k": 8, "b": 9, "c": 4, "n": 8, "w": 4294967296}
+
+# Sums and products are told modulo this.
+MODULUS = 4294967296
 
 # What each member of a set counts, from 0 on; works, kinds, changes and variables are all below eight.
 COUNTS = (1, 2, 4, 8, 16, 32, 64, 128)
@@ -99,6 +111,17 @@ def tree_of(told, text):
         parts = [built.pop() for letter in parts_of(thing[0], number)]
         built.append((number,) + tuple(parts) if has_level(thing[0]) else number)
     return built[0]
+
+
+def numbers_of(tree):
+    """A statement or an expression, told again in numbers."""
+    row = []
+    for part in tree:
+        if isinstance(part, tuple):
+            row.extend(numbers_of(part))
+        else:
+            row.append(part)
+    return row
 
 
 def inner_statements(statement):
@@ -172,6 +195,92 @@ def set_as_number(members):
     return sum([count for member, count in enumerate(COUNTS) if member in members])
 
 
+def worth_of_two(operation, first, second):
+    """What an expression of two others is worth, told by what these are worth."""
+    if operation == SUM:
+        return (first + second) % MODULUS
+    if operation == DIFFERENCE:
+        return max(first - second, 0)
+    if operation == PRODUCT:
+        return first * second % MODULUS
+    if operation == LESS:
+        return 1 if first < second else 0
+    # What is left is ALIKE.
+    return 1 if first == second else 0
+
+
+def tidied(letter, part):
+    """What stands for this letter, tidied: its own parts first, and then it by itself."""
+    if not has_level(letter):
+        return part
+    letters = parts_of(letter, part[0])
+    whole = (part[0],) + tuple([tidied(inner_letter, inner) for inner_letter, inner in zip(letters, part[1:])])
+    if letter == "e":
+        return tidied_expression(whole)
+    return tidied_statement(whole)
+
+
+def tidied_expression(expression):
+    """An expression whose parts are tidied, tidied by itself."""
+    if expression[0] in (NUMBER, VARIABLE):
+        return expression
+    if expression[1][0] == NUMBER and expression[2][0] == NUMBER:
+        return (NUMBER, worth_of_two(expression[0], expression[1][1], expression[2][1]))
+    return expression
+
+
+def tidied_statement(statement):
+    """A statement whose parts are tidied, tidied by itself."""
+    number = statement[0]
+    if number == PUT:
+        return tidied_put(statement[1], statement[2])
+    if number in (THEN, BOTH):
+        return tidied_pair(number, statement[1], statement[2])
+    if number == CHOICE:
+        return tidied_choice(statement[1], statement[2], statement[3])
+    if number == CATCH:
+        return tidied_catch(statement[1], statement[2], statement[3])
+    if number == LOOP and statement[1] == (NUMBER, 0):
+        return (NOTHING,)
+    if number == WITHIN and statement[2][0] in (NOTHING, FAIL):
+        return statement[2]
+    if number == DEAL and statement[1][0] in (NOTHING, FAIL, DEAL):
+        return statement[1]
+    return statement
+
+
+def tidied_put(variable, expression):
+    if expression == (VARIABLE, variable):
+        return (NOTHING,)
+    return (PUT, variable, expression)
+
+
+def tidied_pair(number, first, second):
+    """A THEN or a BOTH."""
+    if first[0] == NOTHING:
+        return second
+    if first[0] == FAIL or second[0] == NOTHING:
+        return first
+    return (number, first, second)
+
+
+def tidied_choice(expression, first, second):
+    if expression[0] == NUMBER:
+        return second if expression[1] == 0 else first
+    if first == second:
+        return first
+    return (CHOICE, expression, first, second)
+
+
+def tidied_catch(variable, first, second):
+    if first[0] == NOTHING:
+        return first
+    if first[0] == FAIL:
+        # The failure is caught for certain, so all that is left of it is what the variable becomes.
+        return tidied_pair(THEN, tidied_put(variable, first[1]), second)
+    return (CATCH, variable, first, second)
+
+
 def read(text):
     """How many statements there are in the text, then how many levels; or a refusal alone."""
     row = row_of(text)
@@ -215,3 +324,13 @@ def soon(text):
         return [refusal]
     may = at_once(tree_of(row.told, text))
     return [(1 if may.ends else 0) + (2 if may.fails else 0)]
+
+
+def tidy(text):
+    """How many numbers the text has, tidied; then these; or a refusal alone."""
+    row = row_of(text)
+    refusal = refusal_of(row, text)
+    if refusal < 0:
+        return [refusal]
+    numbers = numbers_of(tidied("s", tree_of(row.told, text)))
+    return [len(numbers)] + numbers

@@ -119,6 +119,14 @@ def late_sums(count, inner):
     return ([2] + ONE) * count + inner
 
 
+def one_behind_another(rows):
+    """One statement that does these, with few levels."""
+    if len(rows) == 1:
+        return rows[0]
+    half = len(rows) // 2
+    return then(one_behind_another(rows[:half]), one_behind_another(rows[half:]))
+
+
 def halves(count):
     """One statement of so many numbers (an odd number), each of them a statement: 7 or nothing."""
     if count == 1:
@@ -165,6 +173,36 @@ def some_rows():
     return rows
 
 
+def grown(source, shape, pools):
+    """The shape's row with rows out of the pools in its slots, often the first of these, and often two alike."""
+    row = [shape[0]]
+    taken = {}
+    for piece in shape[1:]:
+        if piece not in pools:
+            row.append(source.randint(0, min(piece, 2)))
+            continue
+        if piece not in taken or source.randrange(3) > 0:
+            pool = pools[piece]
+            taken[piece] = source.choice(pool[:8] if source.randrange(2) == 0 else pool)
+        row += taken[piece]
+    return row
+
+
+def some_texts():
+    """Rows that are one statement, of few and small numbers so that much can be tidied; the same at each run."""
+    source = random.Random(20261118)
+    pools = {
+        "s": [[0], [0], [6, 0, 1], [6, 1, 0], [1, 0, 1, 0], [4, 0, 0], [3, 0, 1], [13, 4, 0, 1]],
+        "e": [[0, 0], [0, 0], [0, 1], [0, 65536], [0, MOST], [1, 0], [1, 0], [1, 1]],
+    }
+    while len(pools["s"]) < 6000:
+        for piece, shapes, most in (("e", EXPRESSION_SHAPES[2:], 20), ("s", STATEMENT_SHAPES[1:], 160)):
+            row = grown(source, source.choice(shapes), pools)
+            if len(row) <= most:
+                pools[piece].append(row)
+    return pools["s"]
+
+
 def tree_and_end(row, place, shapes):
     """What begins at this place, as a list with lists in it, by the shapes alone; then the place behind it."""
     tree = [row[place]]
@@ -204,3 +242,103 @@ class Untouchable(list):
 
     append = clear = extend = insert = pop = remove = reverse = sort = refuse
     __setitem__ = __delitem__ = __iadd__ = __imul__ = refuse
+
+
+def shallow_answers(call, cases):
+    """What the function answers in each case, if only some hundred calls may lie within one another."""
+    limit = sys.getrecursionlimit()
+    sys.setrecursionlimit(calls_deep() + 120)
+    try:
+        return [call(*case) for case in cases]
+    finally:
+        sys.setrecursionlimit(limit)
+
+
+class CallChecks:
+    """What is asked of each function's calls. A test case that takes it has the function as call, the cases as CASES
+    (tuples of the lists that are handed in), and numbers_behind."""
+
+    def numbers_behind(self, first):
+        """How many numbers stand behind this one, which isn't a refusal."""
+        raise NotImplementedError
+
+    def test_what_is_handed_in_is_not_changed(self):
+        for case in self.CASES:
+            handed = tuple(Untouchable(row) for row in case)
+            self.call(*handed)
+            self.assertEqual(tuple(list(row) for row in handed), case)
+
+    def test_a_second_call_answers_the_same(self):
+        for case in self.CASES:
+            first = self.call(*case)
+            kept = list(first)
+            second = self.call(*case)
+            self.assertEqual(second, kept)
+            second.append(1)
+            self.assertEqual(first, kept)
+            self.assertEqual(self.call(*case), kept)
+
+    def test_calls_between_change_nothing(self):
+        expected = [self.call(*case) for case in self.CASES]
+        self.assertEqual([self.call(*case) for case in reversed(self.CASES)], expected[::-1])
+
+    def test_the_answer_is_a_list_of_plain_ints(self):
+        for case in self.CASES:
+            answer = self.call(*case)
+            self.assertIs(type(answer), list)
+            self.assertEqual([type(number) for number in answer], [int] * len(answer))
+            self.assertEqual(len(answer), 1 if answer[0] < 0 else 1 + self.numbers_behind(answer[0]))
+
+
+class TextRefusals:
+    """What read, uses, soon and tidy refuse alike. A test case that takes it has the function as call."""
+
+    def refuses(self, row, refusal):
+        with self.subTest(row=row):
+            self.assertEqual(self.call(list(row)), [refusal])
+
+    def test_an_empty_row(self):
+        self.refuses([], -22)
+
+    def test_a_number_too_many_or_missing(self):
+        rows = [filled(shape, wait(), ONE) for shape in STATEMENT_SHAPES]
+        rows += [[3] + filled(shape, [], ONE) for shape in EXPRESSION_SHAPES]
+        for row in rows:
+            self.refuses(row + [0], -22)
+            for count in range(len(row)):
+                self.refuses(row[:count], -22)
+
+    def test_numbers_past_their_range(self):
+        for row in ([15], [MOST], [3, 7, 0], [3, 1, 8], [1, 8] + ONE, [2, 8] + ONE + [0, 0], [2, 0] + ONE + [8, 0],
+                    [2, 0] + ONE + [0, 9], [4, 4, 0], [4, 0, 8], [5] + ONE + [4] + ONE, [12, 8, 0, 0], [14, 8, 0, 0]):
+            self.refuses(row, -22)
+
+    def test_more_than_160_numbers(self):
+        for count in (161, 162, 199, 200):
+            self.refuses(row_with(count), -22)
+
+    def test_more_than_24_levels(self):
+        self.refuses(deals(24, NOTHING), -22)
+        self.refuses(deals(23, wait()), -22)
+        self.refuses([3] + sums(23, ONE), -22)
+        self.refuses([3] + late_sums(23, VARIABLE), -22)
+
+    def test_a_loop_that_does_not_wait_anywhere(self):
+        bad = loop(NOTHING)
+        self.refuses(bad, -33)
+        self.refuses([13] + bad, -33)
+        self.refuses(loop(then(wait(), bad)), -33)
+        for front in FRONTS.values():
+            for other in PLAIN.values():
+                self.refuses(front + bad + other, -33)
+                self.refuses(front + other + bad, -33)
+
+    def test_where_both_are_due_the_one_told_first_is_answered(self):
+        bad = loop(NOTHING)
+        self.refuses(bad + [0], -22)
+        self.refuses([7] + bad, -22)
+        self.refuses([7] + bad + [15], -22)
+        self.refuses([7] + bad + deals(23, NOTHING), -22)
+        self.refuses(then(bad, row_with(155)), -33)
+        self.refuses(then(bad, row_with(156)), -22)
+        self.refuses(then(bad, row_with(195)), -22)

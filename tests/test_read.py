@@ -1,11 +1,11 @@
 """Tests of read: points 1 and 2 of the document, and what stands ahead of them."""
 
-import sys
 import unittest
 
 from errandtext.sheet import read
 from helper import (
     AT_ONCE_OF_TWO,
+    CallChecks,
     EXPRESSION_SHAPES,
     FRONTS,
     MOST,
@@ -13,9 +13,8 @@ from helper import (
     ONE,
     PLAIN,
     STATEMENT_SHAPES,
-    Untouchable,
+    TextRefusals,
     VARIABLE,
-    calls_deep,
     catch,
     deals,
     filled,
@@ -23,6 +22,7 @@ from helper import (
     late_sums,
     loop,
     row_with,
+    shallow_answers,
     slots,
     sums,
     then,
@@ -347,55 +347,21 @@ class Loops(ReadCase):
         self.answers(then([6] + ONE, loop(NOTHING)), NO_WAIT)
 
 
-class BothRefusals(ReadCase):
-    def test_the_one_told_first_is_answered(self):
-        self.answers(loop(NOTHING) + [0], NO_TEXT)
-        self.answers([7] + loop(NOTHING), NO_TEXT)
-        self.answers([7] + loop(NOTHING) + [15], NO_TEXT)
-        self.answers([7] + loop(NOTHING) + deals(23, NOTHING), NO_TEXT)
-        self.answers(then(loop(NOTHING), row_with(155)), NO_WAIT)
-        self.answers(then(loop(NOTHING), row_with(156)), NO_TEXT)
-        self.answers(then(loop(NOTHING), row_with(195)), NO_TEXT)
+class Refusals(TextRefusals, unittest.TestCase):
+    call = staticmethod(read)
 
 
-class Calls(ReadCase):
+class Calls(CallChecks, unittest.TestCase):
     ROWS = ([], [0], [0, 0], loop(NOTHING), loop(wait()), row_with(160), row_with(200), deals(23, NOTHING))
+    CASES = [(row,) for row in ROWS]
+    call = staticmethod(read)
 
-    def test_what_is_handed_in_is_not_changed(self):
-        for row in self.ROWS:
-            handed = Untouchable(row)
-            read(handed)
-            self.assertEqual(list(handed), row)
-
-    def test_a_second_call_answers_the_same(self):
-        for row in self.ROWS:
-            first = read(row)
-            kept = list(first)
-            second = read(row)
-            self.assertEqual(second, kept)
-            second.append(1)
-            self.assertEqual(first, kept)
-            self.assertEqual(read(row), kept)
-
-    def test_calls_between_change_nothing(self):
-        expected = [read(row) for row in self.ROWS]
-        self.assertEqual([read(row) for row in reversed(self.ROWS)], expected[::-1])
-
-    def test_the_answer_is_a_list_of_plain_ints(self):
-        for row in self.ROWS:
-            answer = read(row)
-            self.assertIs(type(answer), list)
-            self.assertEqual([type(number) for number in answer], [int] * len(answer))
+    def numbers_behind(self, first):
+        return 1
 
     def test_no_deep_calls(self):
-        limit = sys.getrecursionlimit()
-        sys.setrecursionlimit(calls_deep() + 120)
-        try:
-            answers = [read([number] * 200) for number in (2, 7, 9, 13)]
-            answers.append(read([3] + sums(22, ONE)))
-            answers.append(read(deals(22, loop([4, 0, 0]))))
-        finally:
-            sys.setrecursionlimit(limit)
+        rows = [[number] * 200 for number in (2, 7, 9, 13)] + [[3] + sums(22, ONE), deals(22, loop([4, 0, 0]))]
+        answers = shallow_answers(read, [(row,) for row in rows])
         self.assertEqual(answers, [NO_TEXT] * 4 + [[1, 24], [24, 24]])
 
 

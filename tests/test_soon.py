@@ -1,25 +1,23 @@
 """Tests of soon: points 1 and 3 of the document, and what stands ahead of them."""
 
-import sys
 import unittest
 
 from errandtext.sheet import read, soon
 from helper import (
     AT_ONCE_OF_TWO,
+    CallChecks,
     FRONTS,
     MOST,
     NOTHING,
     ONE,
     PLAIN,
-    STATEMENT_SHAPES,
-    Untouchable,
+    TextRefusals,
     VARIABLE,
-    calls_deep,
     catch,
     deals,
-    filled,
     loop,
     row_with,
+    shallow_answers,
     some_rows,
     sums,
     then,
@@ -188,30 +186,8 @@ class OfOne(SoonCase):
         self.answers([9, 0, 0] + NOTHING, NO_WAIT)
 
 
-class Refusals(SoonCase):
-    def test_an_empty_row(self):
-        self.answers([], NO_TEXT)
-
-    def test_a_number_too_many_or_missing(self):
-        for shape in STATEMENT_SHAPES:
-            row = filled(shape, wait(), ONE)
-            self.answers(row + [0], NO_TEXT)
-            for count in range(len(row)):
-                self.answers(row[:count], NO_TEXT)
-
-    def test_numbers_past_their_range(self):
-        self.answers([15], NO_TEXT)
-        self.answers([3, 7, 0], NO_TEXT)
-        self.answers([3, 1, 8], NO_TEXT)
-        self.answers([1, 8] + ONE, NO_TEXT)
-        self.answers([2, 8] + ONE + [0, 0], NO_TEXT)
-        self.answers([2, 0] + ONE + [8, 0], NO_TEXT)
-        self.answers([2, 0] + ONE + [0, 9], NO_TEXT)
-        self.answers([4, 4, 0], NO_TEXT)
-        self.answers([4, 0, 8], NO_TEXT)
-        self.answers([5] + ONE + [4] + ONE, NO_TEXT)
-        self.answers([12, 8, 0, 0], NO_TEXT)
-        self.answers([14, 8, 0, 0], NO_TEXT)
+class Refusals(TextRefusals, SoonCase):
+    call = staticmethod(soon)
 
     def test_lengths(self):
         self.answers(row_with(160), ENDS)
@@ -219,8 +195,6 @@ class Refusals(SoonCase):
         self.answers(then(row_with(156), wait()), NEITHER)
         self.answers(then(row_with(152), PLAIN["b"]), EITHER)
         self.answers(then(row_with(157), FAIL), NO_TEXT)
-        for count in (161, 162, 199, 200):
-            self.answers(row_with(count), NO_TEXT)
 
     def test_levels(self):
         self.answers(deals(23, NOTHING), ENDS)
@@ -237,24 +211,6 @@ class Refusals(SoonCase):
     def test_a_loop_that_does_not_wait(self):
         for inner in (NOTHING, PUT, TELL, loop(wait()), catch(FAIL, NOTHING), deals(20, NOTHING)):
             self.answers(loop(inner), NO_WAIT)
-
-    def test_such_a_loop_anywhere(self):
-        bad = loop(NOTHING)
-        for front in FRONTS.values():
-            for other in PLAIN.values():
-                self.answers(front + bad + other, NO_WAIT)
-                self.answers(front + other + bad, NO_WAIT)
-        self.answers([13] + bad, NO_WAIT)
-        self.answers(loop(then(wait(), bad)), NO_WAIT)
-
-    def test_where_both_are_due_the_one_told_first_is_answered(self):
-        self.answers(loop(NOTHING) + [0], NO_TEXT)
-        self.answers([7] + loop(NOTHING), NO_TEXT)
-        self.answers([7] + loop(NOTHING) + [15], NO_TEXT)
-        self.answers([7] + loop(NOTHING) + deals(23, NOTHING), NO_TEXT)
-        self.answers(then(loop(NOTHING), row_with(155)), NO_WAIT)
-        self.answers(then(loop(NOTHING), row_with(156)), NO_TEXT)
-        self.answers(then(loop(NOTHING), row_with(195)), NO_TEXT)
 
 
 def outcomes(tree):
@@ -295,45 +251,18 @@ class ManyRows(unittest.TestCase):
         self.assertGreater(min(seen.values()), 10)
 
 
-class Calls(unittest.TestCase):
+class Calls(CallChecks, unittest.TestCase):
     ROWS = ([], [0], [0, 0], loop(NOTHING), loop(wait()), loop(FAIL), FAIL, wait(), row_with(160), row_with(200),
             deals(23, NOTHING))
+    CASES = [(row,) for row in ROWS]
+    call = staticmethod(soon)
 
-    def test_what_is_handed_in_is_not_changed(self):
-        for row in self.ROWS:
-            handed = Untouchable(row)
-            soon(handed)
-            self.assertEqual(list(handed), row)
-
-    def test_a_second_call_answers_the_same(self):
-        for row in self.ROWS:
-            first = soon(row)
-            kept = list(first)
-            second = soon(row)
-            self.assertEqual(second, kept)
-            second.append(1)
-            self.assertEqual(first, kept)
-            self.assertEqual(soon(row), kept)
-
-    def test_calls_between_change_nothing(self):
-        expected = [soon(row) for row in self.ROWS]
-        self.assertEqual([soon(row) for row in reversed(self.ROWS)], expected[::-1])
-
-    def test_the_answer_is_one_plain_int_in_a_list(self):
-        for row in self.ROWS:
-            answer = soon(row)
-            self.assertIs(type(answer), list)
-            self.assertEqual([type(number) for number in answer], [int])
+    def numbers_behind(self, first):
+        return 0
 
     def test_no_deep_calls(self):
-        limit = sys.getrecursionlimit()
-        sys.setrecursionlimit(calls_deep() + 120)
-        try:
-            answers = [soon([number] * 200) for number in (2, 7, 9, 13)]
-            answers.append(soon([6] + sums(22, ONE)))
-            answers.append(soon(deals(22, loop(HEAR))))
-        finally:
-            sys.setrecursionlimit(limit)
+        rows = [[number] * 200 for number in (2, 7, 9, 13)] + [[6] + sums(22, ONE), deals(22, loop(HEAR))]
+        answers = shallow_answers(soon, [(row,) for row in rows])
         self.assertEqual(answers, [NO_TEXT] * 4 + [FAILS, ENDS])
 
 

@@ -1,24 +1,25 @@
 """Tests of uses: points 1 and 3 of the document, and what stands ahead of them."""
 
-import sys
 import unittest
 
 from errandtext.sheet import read, uses
 from helper import (
+    CallChecks,
     EXPRESSION_SHAPES,
     MOST,
     NOTHING,
     ONE,
     STATEMENT_SHAPES,
-    Untouchable,
+    TextRefusals,
     VARIABLE,
-    calls_deep,
     catch,
     deals,
     filled,
     filled_at,
     loop,
+    one_behind_another,
     row_with,
+    shallow_answers,
     slots,
     some_rows,
     sums,
@@ -86,14 +87,6 @@ def tell(kind):
 
 def change(number, first, second):
     return [14, number] + first + second
-
-
-def one_behind_another(rows):
-    """One statement that does these, with few levels."""
-    if len(rows) == 1:
-        return rows[0]
-    half = len(rows) // 2
-    return then(one_behind_another(rows[:half]), one_behind_another(rows[half:]))
 
 
 def together(first, second):
@@ -244,37 +237,13 @@ class Expressions(UsesCase):
         self.answers([5, 1, 3, 0, 1, 2], [0, 0, 0, 0, 1, 0, 0])
 
 
-class Refusals(UsesCase):
-    def test_an_empty_row(self):
-        self.answers([], NO_TEXT)
-
-    def test_a_number_too_many_or_missing(self):
-        for shape in STATEMENT_SHAPES:
-            row = filled(shape, wait(), ONE)
-            self.answers(row + [0], NO_TEXT)
-            for count in range(len(row)):
-                self.answers(row[:count], NO_TEXT)
-
-    def test_numbers_past_their_range(self):
-        self.answers([15], NO_TEXT)
-        self.answers([3, 7, 0], NO_TEXT)
-        self.answers([3, 1, 8], NO_TEXT)
-        self.answers(put(8), NO_TEXT)
-        self.answers(step(8, 0, 0), NO_TEXT)
-        self.answers(step(0, 8, 0), NO_TEXT)
-        self.answers(step(0, 0, 9), NO_TEXT)
-        self.answers(hear(4, 0), NO_TEXT)
-        self.answers(hear(0, 8), NO_TEXT)
-        self.answers(tell(4), NO_TEXT)
-        self.answers([12, 8, 0, 0], NO_TEXT)
-        self.answers(change(8, NOTHING, NOTHING), NO_TEXT)
+class Refusals(TextRefusals, UsesCase):
+    call = staticmethod(uses)
 
     def test_lengths(self):
         self.answers(then(row_with(156), hear(3, 7)), [0, 0, 0, 8, 0, 0, 129])
         self.answers(then(row_with(157), hear(3, 7)), NO_TEXT)
         self.answers(row_with(160), [0, 0, 0, 0, 0, 0, 1])
-        for count in (161, 162, 199, 200):
-            self.answers(row_with(count), NO_TEXT)
 
     def test_levels(self):
         self.answers(deals(23, hear(3, 7)), [0, 0, 0, 8, 0, 0, 128])
@@ -298,15 +267,6 @@ class Refusals(UsesCase):
         self.answers(loop(hear(1, 2)), [0, 0, 0, 2, 0, 0, 4])
         self.answers(loop(catch(wait(), put(1))), [0, 0, 0, 0, 0, 0, 3])
         self.answers(loop([6] + ONE), NONE)
-
-    def test_where_both_are_due_the_one_told_first_is_answered(self):
-        self.answers(loop(NOTHING) + [0], NO_TEXT)
-        self.answers([7] + loop(NOTHING), NO_TEXT)
-        self.answers([7] + loop(NOTHING) + [15], NO_TEXT)
-        self.answers([7] + loop(NOTHING) + deals(23, NOTHING), NO_TEXT)
-        self.answers(then(loop(NOTHING), row_with(155)), NO_WAIT)
-        self.answers(then(loop(NOTHING), row_with(156)), NO_TEXT)
-        self.answers(then(loop(NOTHING), row_with(195)), NO_TEXT)
 
 
 # For each statement's number, which of the six sets its parts lie in, by their index in the tree.
@@ -350,7 +310,7 @@ class ManyRows(unittest.TestCase):
         self.assertGreater(seen, 500)
 
 
-class Calls(unittest.TestCase):
+class Calls(CallChecks, unittest.TestCase):
     ROWS = (
         [],
         [0],
@@ -363,43 +323,15 @@ class Calls(unittest.TestCase):
         row_with(200),
         deals(23, NOTHING),
     )
+    CASES = [(row,) for row in ROWS]
+    call = staticmethod(uses)
 
-    def test_what_is_handed_in_is_not_changed(self):
-        for row in self.ROWS:
-            handed = Untouchable(row)
-            uses(handed)
-            self.assertEqual(list(handed), row)
-
-    def test_a_second_call_answers_the_same(self):
-        for row in self.ROWS:
-            first = uses(row)
-            kept = list(first)
-            second = uses(row)
-            self.assertEqual(second, kept)
-            second.append(1)
-            self.assertEqual(first, kept)
-            self.assertEqual(uses(row), kept)
-
-    def test_calls_between_change_nothing(self):
-        expected = [uses(row) for row in self.ROWS]
-        self.assertEqual([uses(row) for row in reversed(self.ROWS)], expected[::-1])
-
-    def test_the_answer_is_a_list_of_plain_ints(self):
-        for row in self.ROWS:
-            answer = uses(row)
-            self.assertIs(type(answer), list)
-            self.assertEqual([type(number) for number in answer], [int] * len(answer))
-            self.assertEqual(len(answer), 1 if answer[0] < 0 else 7)
+    def numbers_behind(self, first):
+        return 6
 
     def test_no_deep_calls(self):
-        limit = sys.getrecursionlimit()
-        sys.setrecursionlimit(calls_deep() + 120)
-        try:
-            answers = [uses([number] * 200) for number in (2, 7, 9, 13)]
-            answers.append(uses([3] + sums(22, ONE)))
-            answers.append(uses(deals(22, loop(hear(0, 0)))))
-        finally:
-            sys.setrecursionlimit(limit)
+        rows = [[number] * 200 for number in (2, 7, 9, 13)] + [[3] + sums(22, ONE), deals(22, loop(hear(0, 0)))]
+        answers = shallow_answers(uses, [(row,) for row in rows])
         self.assertEqual(answers, [NO_TEXT] * 4 + [NONE, [0, 0, 0, 1, 0, 0, 1]])
 
 

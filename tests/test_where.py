@@ -1,24 +1,23 @@
 """Tests of where: point 2 of the document, and b of what holds."""
 
-import sys
 import unittest
 
 from errandtext.sheet import read, where
 from helper import (
+    CallChecks,
     EXPRESSION_SHAPES,
     MOST,
     NOTHING,
     ONE,
     STATEMENT_SHAPES,
-    Untouchable,
     VARIABLE,
-    calls_deep,
     deals,
     filled,
     filled_at,
     late_sums,
     loop,
     row_with,
+    shallow_answers,
     slots,
     some_rows,
     sums,
@@ -308,38 +307,17 @@ class WhatHolds(unittest.TestCase):
                     self.assertEqual(where(row[:place + 1] + back), [place], row)
 
 
-class Calls(unittest.TestCase):
+class Calls(CallChecks, unittest.TestCase):
     ROWS = ([], [0], [0, 0], loop(NOTHING), [1, 8], row_with(160), row_with(200), deals(23, NOTHING), deals(24, NOTHING))
+    CASES = [(row,) for row in ROWS]
+    call = staticmethod(where)
 
-    def test_what_is_handed_in_is_not_changed(self):
-        for row in self.ROWS:
-            handed = Untouchable(row)
-            where(handed)
-            self.assertEqual(list(handed), row)
-
-    def test_a_second_call_answers_the_same(self):
-        for row in self.ROWS:
-            first = where(row)
-            kept = list(first)
-            second = where(row)
-            self.assertEqual(second, kept)
-            second.append(1)
-            self.assertEqual(first, kept)
-            self.assertEqual(where(row), kept)
-
-    def test_the_answer_is_one_plain_int_in_a_list(self):
-        for row in self.ROWS:
-            answer = where(row)
-            self.assertIs(type(answer), list)
-            self.assertEqual([type(number) for number in answer], [int])
+    def numbers_behind(self, first):
+        return 0
 
     def test_no_deep_calls(self):
-        limit = sys.getrecursionlimit()
-        sys.setrecursionlimit(calls_deep() + 120)
-        try:
-            answers = [where([3] + [2] * 199), where([7] * 200), where([9, 0, 0] * 60), where(row_with(200))]
-        finally:
-            sys.setrecursionlimit(limit)
+        rows = [[3] + [2] * 199, [7] * 200, [9, 0, 0] * 60, row_with(200)]
+        answers = shallow_answers(where, [(row,) for row in rows])
         self.assertEqual(answers, [[23], [23], [69], WHOLE])
 
 
