@@ -1,5 +1,5 @@
-"""Errands' texts: what a row of numbers tells, where it ceases to, what it uses, what it may do at once, and how
-the same is said in fewer numbers.
+"""Errands' texts: what a row of numbers tells, where it ceases to, what it uses, what it may do at once, how the
+same is said in fewer numbers, and what an expression is worth.
 
 A number's place in the row says what it tells; one letter stands for each such thing: s a statement,
 e an expression, v a variable, k a work, b by what a step is put back, c a kind, n a change, w a whole number.
@@ -8,10 +8,12 @@ A thing is a letter and a level: of a statement and an expression its own, of al
 
 ONE_STATEMENT = -6
 NO_TEXT = -22
+NO_EXPRESSION = -22
 LOOP_WITHOUT_WAIT = -33
 
 MOST_NUMBERS = 160
 MOST_LEVELS = 24
+VARIABLE_COUNT = 8
 
 NOTHING = 0
 PUT = 1
@@ -51,7 +53,7 @@ COUNTS = (1, 2, 4, 8, 16, 32, 64, 128)
 
 
 class Row:
-    """What the numbers of a row tell, up to the first that can't stand, and whether all of them are one statement."""
+    """What the numbers of a row tell, up to the first that can't stand, and whether all of them are one whole thing."""
 
     def __init__(self, told, whole):
         self.told = told
@@ -92,10 +94,11 @@ def can_stand(thing, number):
     return all([behind[1] <= MOST_LEVELS for behind in things_behind(thing, number)])
 
 
-def row_of(text):
+def row_of(numbers, letter):
+    """What these numbers tell, if they are to be one statement or one expression."""
     told = []
-    waiting = [("s", 1)]
-    for number in text:
+    waiting = [(letter, 1)]
+    for number in numbers:
         if len(waiting) == 0 or not can_stand(waiting[0], number):
             return Row(told, False)
         told.append(waiting[0])
@@ -103,11 +106,11 @@ def row_of(text):
     return Row(told, len(waiting) == 0)
 
 
-def tree_of(told, text):
-    """A whole statement as a tuple: its number, then its parts, the statements and expressions among them likewise."""
+def tree_of(told, numbers):
+    """What is told as a whole, as a tuple: its number, then its parts, the statements and expressions likewise."""
     built = []
     # Backwards, so that a number's parts lie ready when it is reached, the first of them on top.
-    for thing, number in reversed(list(zip(told, text))):
+    for thing, number in reversed(list(zip(told, numbers))):
         parts = [built.pop() for letter in parts_of(thing[0], number)]
         built.append((number,) + tuple(parts) if has_level(thing[0]) else number)
     return built[0]
@@ -209,6 +212,15 @@ def worth_of_two(operation, first, second):
     return 1 if first == second else 0
 
 
+def worth(expression, held):
+    """What an expression is worth, if the variables hold this."""
+    if expression[0] == NUMBER:
+        return expression[1]
+    if expression[0] == VARIABLE:
+        return held[expression[1]]
+    return worth_of_two(expression[0], worth(expression[1], held), worth(expression[2], held))
+
+
 def tidied(letter, part):
     """What stands for this letter, tidied: its own parts first, and then it by itself."""
     if not has_level(letter):
@@ -283,7 +295,7 @@ def tidied_catch(variable, first, second):
 
 def read(text):
     """How many statements there are in the text, then how many levels; or a refusal alone."""
-    row = row_of(text)
+    row = row_of(text, "s")
     refusal = refusal_of(row, text)
     if refusal < 0:
         return [refusal]
@@ -293,7 +305,7 @@ def read(text):
 
 def where(text):
     """The place of the first number that can't stand, or of the one that's missing; -6 if the row is one statement."""
-    row = row_of(text)
+    row = row_of(text, "s")
     if row.whole:
         return [ONE_STATEMENT]
     return [len(row.told)]
@@ -301,7 +313,7 @@ def where(text):
 
 def uses(text):
     """0, then as sets: works asked, works that put back, kinds heard, kinds told, changes, variables put into."""
-    row = row_of(text)
+    row = row_of(text, "s")
     refusal = refusal_of(row, text)
     if refusal < 0:
         return [refusal]
@@ -318,7 +330,7 @@ def uses(text):
 
 def soon(text):
     """1 if the text may end well at once, and 2 more if it may fail at once; or a refusal."""
-    row = row_of(text)
+    row = row_of(text, "s")
     refusal = refusal_of(row, text)
     if refusal < 0:
         return [refusal]
@@ -328,9 +340,17 @@ def soon(text):
 
 def tidy(text):
     """How many numbers the text has, tidied; then these; or a refusal alone."""
-    row = row_of(text)
+    row = row_of(text, "s")
     refusal = refusal_of(row, text)
     if refusal < 0:
         return [refusal]
     numbers = numbers_of(tidied("s", tree_of(row.told, text)))
     return [len(numbers)] + numbers
+
+
+def value(e, the_vars):
+    """0, then what the expression is worth, if the variables hold these; or a refusal alone."""
+    row = row_of(e, "e")
+    if not row.whole or len(the_vars) != VARIABLE_COUNT:
+        return [NO_EXPRESSION]
+    return [0, worth(tree_of(row.told, e), the_vars)]

@@ -38,6 +38,28 @@ EXPRESSION_SHAPES = [
     [6, "e", "e"],
 ]
 
+# Of each expression of two others, what it's worth where these are the first two numbers.
+HALF = 2147483648
+OF_TWO = {
+    2: [(0, 0, 0), (3, 5, 8), (5, 5, 10), (5, 3, 8), (HALF, HALF - 1, MOST), (HALF, HALF, 0), (MOST, 0, MOST),
+        (MOST, 1, 0), (1, MOST, 0), (MOST, 2, 1), (MOST, MOST, MOST - 1)],
+    3: [(5, 3, 2), (5, 5, 0), (3, 5, 0), (0, 1, 0), (0, MOST, 0), (MOST, 0, MOST), (MOST, MOST, 0),
+        (MOST, MOST - 1, 1), (MOST - 1, MOST, 0)],
+    4: [(3, 5, 15), (5, 5, 25), (5, 3, 15), (0, MOST, 0), (MOST, 1, MOST), (65536, 65535, 4294901760),
+        (65536, 65536, 0), (65537, 65537, 131073), (MOST, 2, MOST - 1), (MOST, MOST, 1)],
+    5: [(3, 5, 1), (5, 5, 0), (5, 3, 0), (0, MOST, 1), (MOST, 0, 0), (MOST, MOST, 0)],
+    6: [(3, 5, 0), (5, 5, 1), (5, 3, 0), (0, 0, 1), (MOST, 0, 0), (MOST, MOST, 1)],
+}
+
+# What the variables may hold.
+HELD = (
+    [0] * 8,
+    [1] * 8,
+    [MOST] * 8,
+    [3, 1, 4, 1, 5, 9, 2, 6],
+    [65536, MOST, 0, 7, 2, 1, 8, 2147483648],
+)
+
 # A statement for each of what one may do at once: - neither, w end well, f fail, b both.
 PLAIN = {
     "-": [4, 0, 0],
@@ -137,6 +159,14 @@ def halves(count):
     return [7] + halves(first) + halves(count - 1 - first)
 
 
+def sum_of(parts):
+    """One expression that is the sum of these, with few levels."""
+    if len(parts) == 1:
+        return parts[0]
+    half = len(parts) // 2
+    return [2] + sum_of(parts[:half]) + sum_of(parts[half:])
+
+
 def row_with(count):
     """One statement of so many numbers (6 and more), with few levels."""
     if count % 2 == 1:
@@ -188,8 +218,8 @@ def grown(source, shape, pools):
     return row
 
 
-def some_texts():
-    """Rows that are one statement, of few and small numbers so that much can be tidied; the same at each run."""
+def some_pools():
+    """Statements and expressions of few and small numbers, so that much can be tidied; the same at each run."""
     source = random.Random(20261118)
     pools = {
         "s": [[0], [0], [6, 0, 1], [6, 1, 0], [1, 0, 1, 0], [4, 0, 0], [3, 0, 1], [13, 4, 0, 1]],
@@ -200,7 +230,34 @@ def some_texts():
             row = grown(source, source.choice(shapes), pools)
             if len(row) <= most:
                 pools[piece].append(row)
-    return pools["s"]
+    return pools
+
+
+def some_texts():
+    """Rows that are one statement; the same at each run."""
+    return some_pools()["s"]
+
+
+def some_expressions():
+    """Rows that are one expression; the same at each run."""
+    source = random.Random(20261118)
+    rows = [some_piece(source, "e", 1, source.randint(1, 7)) for count in range(4000)]
+    return some_pools()["e"] + [row for row in rows if len(row) <= 200]
+
+
+def worth_and_end(row, place, variables):
+    """What the expression that begins at this place is worth, then the place behind it."""
+    number = row[place]
+    if number < 2:
+        return (variables[row[place + 1]] if number == 1 else row[place + 1]), place + 2
+    first, place = worth_and_end(row, place + 1, variables)
+    second, place = worth_and_end(row, place, variables)
+    results = {2: first + second, 3: max(0, first - second), 4: first * second, 5: first < second, 6: first == second}
+    return int(results[number]) & MOST, place
+
+
+def worth(expression, variables=()):
+    return worth_and_end(expression, 0, variables)[0]
 
 
 def tree_and_end(row, place, shapes):

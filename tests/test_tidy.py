@@ -8,8 +8,10 @@ from errandtext.sheet import read, soon, tidy, uses
 from helper import (
     CallChecks,
     EXPRESSION_SHAPES,
+    HELD,
     MOST,
     NOTHING,
+    OF_TWO,
     ONE,
     STATEMENT_SHAPES,
     TextRefusals,
@@ -28,6 +30,7 @@ from helper import (
     sums,
     then,
     wait,
+    worth,
 )
 
 NO_TEXT = [-22]
@@ -137,57 +140,10 @@ class TheLists(TidyCase):
 
 
 class Expressions(TidyCase):
-    def worth(self, operation, first, second, expected):
-        self.becomes([3, operation, 0, first, 0, second], [3, 0, expected])
-
-    def test_sums(self):
-        self.worth(2, 0, 0, 0)
-        self.worth(2, 3, 5, 8)
-        self.worth(2, 5, 3, 8)
-        self.worth(2, MOST, 0, MOST)
-        self.worth(2, 2147483648, 2147483647, MOST)
-        self.worth(2, MOST, 1, 0)
-        self.worth(2, 1, MOST, 0)
-        self.worth(2, MOST, 2, 1)
-        self.worth(2, 2147483648, 2147483648, 0)
-        self.worth(2, MOST, MOST, 4294967294)
-
-    def test_differences(self):
-        self.worth(3, 5, 3, 2)
-        self.worth(3, 5, 5, 0)
-        self.worth(3, 3, 5, 0)
-        self.worth(3, 0, 1, 0)
-        self.worth(3, 0, MOST, 0)
-        self.worth(3, MOST, 0, MOST)
-        self.worth(3, MOST, 1, 4294967294)
-        self.worth(3, MOST, MOST, 0)
-
-    def test_products(self):
-        self.worth(4, 3, 5, 15)
-        self.worth(4, 5, 3, 15)
-        self.worth(4, 0, MOST, 0)
-        self.worth(4, MOST, 1, MOST)
-        self.worth(4, 65536, 65535, 4294901760)
-        self.worth(4, 65536, 65536, 0)
-        self.worth(4, 65537, 65537, 131073)
-        self.worth(4, MOST, 2, 4294967294)
-        self.worth(4, MOST, MOST, 1)
-
-    def test_whether_it_is_less(self):
-        self.worth(5, 3, 5, 1)
-        self.worth(5, 5, 5, 0)
-        self.worth(5, 5, 3, 0)
-        self.worth(5, 0, MOST, 1)
-        self.worth(5, MOST, 0, 0)
-        self.worth(5, MOST, MOST, 0)
-
-    def test_whether_they_are_alike(self):
-        self.worth(6, 3, 5, 0)
-        self.worth(6, 5, 5, 1)
-        self.worth(6, 5, 3, 0)
-        self.worth(6, 0, 0, 1)
-        self.worth(6, MOST, 0, 0)
-        self.worth(6, MOST, MOST, 1)
+    def test_of_two_numbers(self):
+        for operation, results in OF_TWO.items():
+            for first, second, expected in results:
+                self.becomes([3, operation, 0, first, 0, second], [3, 0, expected])
 
     def test_numbers_and_variables_stay(self):
         for number in (0, 1, 7, 8, MOST):
@@ -701,21 +657,6 @@ EXPRESSION_RULES = {
 }
 
 
-def worth_and_end(row, place, variables):
-    """What the expression that begins at this place is worth, then the place behind it."""
-    number = row[place]
-    if number < 2:
-        return (variables[row[place + 1]] if number == 1 else row[place + 1]), place + 2
-    first, place = worth_and_end(row, place + 1, variables)
-    second, place = worth_and_end(row, place, variables)
-    results = {2: first + second, 3: max(0, first - second), 4: first * second, 5: first < second, 6: first == second}
-    return int(results[number]) & MOST, place
-
-
-def worth(expression, variables=()):
-    return worth_and_end(expression, 0, variables)[0]
-
-
 def tidied_and_end(row, place, letter, seen):
     """What begins at this place, tidied by the rules above, then the place behind it; seen counts the rules."""
     shapes, rules = {"s": (STATEMENT_SHAPES, STATEMENT_RULES), "e": (EXPRESSION_SHAPES, EXPRESSION_RULES)}[letter]
@@ -786,14 +727,13 @@ class ManyTexts(unittest.TestCase):
             self.assertEqual(soon(tidied)[0] & ~soon(row)[0], 0, row)
 
     def test_an_expression_is_worth_the_same(self):
-        variables = ([0] * 8, [1] * 8, [MOST] * 8, [3, 1, 4, 1, 5, 9, 2, 6], [65536, MOST, 0, 7, 2, 1, 8, 2147483648])
         seen = 0
         for row, tidied in tidied_texts():
             # A wait and a failure are their expression and no more; they're told by one number ahead of it.
             if row[0] in (3, 6):
                 seen += tidied != row
                 self.assertEqual(tidied[0], row[0])
-                for held in variables:
+                for held in HELD:
                     self.assertEqual(worth(tidied[1:], held), worth(row[1:], held), row)
         self.assertGreater(seen, 100)
 
